@@ -1,0 +1,1 @@
+"""Sets of words told apart by filters without repetition, or shown inseparable."""
