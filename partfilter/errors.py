@@ -1,4 +1,7 @@
-"""The errors of the program, all under FilterError."""
+"""The errors of the program, all under FilterError.
+
+The message of an error with an attribute is what it was made with.
+"""
 
 
 class FilterError(ValueError):
@@ -9,7 +12,6 @@ class InvalidSemigroup(FilterError):
     """A semigroup has a fault; `word` tells which one."""
 
     def __init__(self, word):
-        super().__init__(f"not a valid semigroup: {word}")
         self.word = word
 
 
@@ -17,7 +19,6 @@ class InvalidMachine(FilterError):
     """A machine has a fault; `word` tells which one."""
 
     def __init__(self, word):
-        super().__init__(f"not a valid machine: {word}")
         self.word = word
 
 
@@ -25,7 +26,6 @@ class InvalidFilter(FilterError):
     """A filter is not valid; `number` is the first line at fault."""
 
     def __init__(self, number):
-        super().__init__(f"not a valid filter: line {number}")
         self.number = number
 
 
@@ -33,7 +33,6 @@ class InvalidLine(FilterError):
     """A line of a text is not valid; `number` is the first one at fault."""
 
     def __init__(self, number):
-        super().__init__(f"not a valid text: line {number}")
         self.number = number
 
 
@@ -41,7 +40,6 @@ class InvalidLetter(FilterError):
     """A letter is not valid; `place` tells where or which one."""
 
     def __init__(self, place):
-        super().__init__(f"not a valid letter: {place}")
         self.place = place
 
 

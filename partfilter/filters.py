@@ -43,7 +43,7 @@ def takes(lines, word):
     """Whether a filter takes a word of at most 20 letters."""
     check_filter(lines)
     if len(word) > MOST_WORD:
-        raise WordTooLong(f"more than {MOST_WORD} letters")
+        raise WordTooLong("more letters than takes works for")
     above = []
     for line in lines:
         above.append(ends_of(line, above, word))

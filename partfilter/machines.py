@@ -65,7 +65,7 @@ def add_map(maps, found):
     if found in maps:
         return
     if len(maps) == MOST_VALUES:
-        raise TooManyValues(f"more than {MOST_VALUES} maps")
+        raise TooManyValues("more maps than a semigroup has values")
     maps.append(found)
 
 

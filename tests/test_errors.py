@@ -53,6 +53,11 @@ class Errors(unittest.TestCase):
         for place in (0, 3):
             self.assertEqual(InvalidLetter(place).place, place)
 
+    def test_the_message_tells_the_attribute(self):
+        self.assertEqual(str(InvalidSemigroup("associative")), "associative")
+        self.assertEqual(str(InvalidFilter(299)), "299")
+        self.assertEqual(str(InvalidLetter(2)), "2")
+
     def test_attributes_are_set_by_name_too(self):
         self.assertEqual(InvalidSemigroup(word="letters").word, "letters")
         self.assertEqual(InvalidMachine(word="rows").word, "rows")
