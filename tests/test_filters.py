@@ -1,11 +1,11 @@
 """Points [7] to [11]: filters, which words they take, their depth, and trimmed filters."""
 
 import itertools
-import random
 import unittest
 
 from partfilter.errors import InvalidFilter, WordTooLong
 from partfilter.filters import depth_of, filter_fault, takes, trimmed
+from samples import some_filters, words_up_to
 
 NONE = ("none",)
 EMPTY = ("empty",)
@@ -14,12 +14,6 @@ B = ("letter", 1)
 C = ("letter", 2)
 # All words: what is not none.
 ALL = (NONE, ("not", 0))
-
-
-def words_up_to(letters, most):
-    for size in range(most + 1):
-        for word in itertools.product(range(letters), repeat=size):
-            yield list(word)
 
 
 def plain_takes(lines, number, word):
@@ -56,24 +50,6 @@ def plain_put(lines, number, put):
     if line not in put:
         put.append(line)
     return put.index(line)
-
-
-def some_filters(count, most):
-    """Filters of up to so many lines, always the same ones."""
-    chosen = random.Random(11)
-    for _ in range(count):
-        lines = []
-        for number in range(chosen.randint(1, most)):
-            kinds = ["none", "empty", "letter", "letter"]
-            if number:
-                kinds += ["or", "not", "behind"] * 3
-            kind = chosen.choice(kinds)
-            if kind == "letter":
-                lines.append((kind, chosen.randrange(3)))
-            else:
-                many = {"none": 0, "empty": 0, "not": 1}.get(kind, 2)
-                lines.append((kind, *[chosen.randrange(number) for _ in range(many)]))
-        yield tuple(lines)
 
 
 def without_unused(lines):
@@ -241,10 +217,10 @@ class Takes(unittest.TestCase):
         self.assertEqual(self.taken((A, B, ("or", 0, 1), ("not", 0), B)), [[1]])
 
     def test_against_the_plain_definition(self):
-        for lines in some_filters(400, 9):
+        for lines in some_filters(400, 9, 11):
             for word in words_up_to(3, 3):
                 self.assertEqual(takes(lines, word), plain_takes(lines, len(lines) - 1, word))
-        for lines in some_filters(100, 7):
+        for lines in some_filters(100, 7, 11):
             for word in words_up_to(2, 6):
                 self.assertEqual(takes(lines, word), plain_takes(lines, len(lines) - 1, word))
 
@@ -322,7 +298,7 @@ class Depth(unittest.TestCase):
         self.assertEqual(depth_of(lines), 299)
 
     def test_against_the_plain_definition(self):
-        for lines in some_filters(300, 12):
+        for lines in some_filters(300, 12, 11):
             self.assertEqual(depth_of(lines), plain_depth(lines, len(lines) - 1))
 
 
@@ -376,13 +352,13 @@ class Trimmed(unittest.TestCase):
         self.assertEqual(trimmed(lines), (A,) + tuple(("not", number) for number in range(298)))
 
     def test_against_the_plain_definition(self):
-        for lines in some_filters(400, 12):
+        for lines in some_filters(400, 12, 11):
             put = []
             plain_put(lines, len(lines) - 1, put)
             self.assertEqual(trimmed(lines), tuple(put))
 
     def test_what_it_returns(self):
-        for lines in some_filters(150, 10):
+        for lines in some_filters(150, 10, 11):
             short = trimmed(lines)
             self.assertIsInstance(short, tuple)
             self.assertIsNone(filter_fault(short))

@@ -6,7 +6,7 @@ import pathlib
 import unittest
 
 import partfilter
-from partfilter import filters, machines, semigroups
+from partfilter import alike, comparing, family, filters, machines, readers, semigroups
 
 PACKAGE = pathlib.Path(partfilter.__file__).parent
 INTERFACE = {
@@ -26,6 +26,27 @@ INTERFACE = {
         "takes": ["lines", "word"],
         "depth_of": ["lines"],
         "trimmed": ["lines"],
+    },
+    alike: {
+        "are_alike": ["one", "two", "depth"],
+        "far": ["depth"],
+    },
+    family: {
+        "product_of": ["table", "one", "two"],
+        "settling": ["table", "one"],
+        "settled": ["table", "one"],
+        "turned": ["table", "one"],
+        "family_of": ["semigroup"],
+    },
+    readers: {
+        "reader_of": ["lines", "letters"],
+        "refuted_by": ["semigroup", "first", "second", "lines"],
+    },
+    comparing: {
+        "first_taken": ["lines", "letters"],
+        "first_difference": ["one", "two", "letters"],
+        "count_taken": ["lines", "letters", "size"],
+        "least_reader": ["lines", "letters"],
     },
 }
 
