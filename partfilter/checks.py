@@ -1,4 +1,4 @@
-"""Checks of plain numbers that semigroups, machines and filters have in common."""
+"""Checks of plain numbers that many parts of the program have in common."""
 
 
 def are_below(numbers, many):
@@ -14,3 +14,8 @@ def are_rows(rows, size, many):
 def is_rising_set(numbers, many):
     """Whether the numbers are different, ascending, and from 0 to many - 1."""
     return list(numbers) == sorted(set(numbers)) and are_below(numbers, many)
+
+
+def have_common(one, two):
+    """Whether a number stands in both of two tuples, lists or dicts."""
+    return any([number in two for number in one])

@@ -116,10 +116,15 @@ def parts_of(line):
 def trimmed(lines):
     """The filter with its last line put down: no line twice, and none that is not used."""
     check_filter(lines)
+    return put_down(lines, len(lines) - 1)
+
+
+def put_down(lines, last):
+    """A line of a list, put down: all lines that it is made of, each once, itself behind them."""
     put = {}
     numbers = {}
-    # A list of waiting lines instead of recursion: lines may be nested 300 deep.
-    waiting = [len(lines) - 1]
+    # A list of waiting lines instead of recursion: lines may be nested 300 deep and more.
+    waiting = [last]
     while waiting:
         line = lines[waiting[-1]]
         missing = [part for part in parts_of(line) if part not in numbers]

@@ -1,33 +1,13 @@
 """Points [15] and [16]: products of sets, settled and turned sets, and the family."""
 
 import itertools
-import random
 import unittest
 
-from partfilter.errors import InvalidSemigroup
 from partfilter.family import family_of, product_of, settled, settling, turned
-
-ONE = ((0,),)
-ADD2 = ((0, 1), (1, 0))
-ADD3 = ((0, 1, 2), (1, 2, 0), (2, 0, 1))
-ADD4 = tuple(tuple((a + b) % 4 for b in range(4)) for a in range(4))
-LEFT = ((0, 0), (1, 1))
-RIGHT = ((0, 1), (0, 1))
-BAND = tuple(tuple((a // 2) * 2 + b % 2 for b in range(4)) for a in range(4))
-# The value k is a word of k + 1 letters, and 3 is any longer one.
-COUNT4 = tuple(tuple(min(a + b + 1, 3) for b in range(4)) for a in range(4))
-COUNT3 = tuple(tuple(min(a + b + 1, 2) for b in range(3)) for a in range(3))
-# The value 0 returns to the value 1 after two more times: powers 0, 1, 2, 1, 2 and so on.
-TAIL = ((1, 2, 1), (2, 1, 2), (1, 2, 1))
-# The values 0 and 1 are added as remainders by 2, and with 2 the product is 2.
-CUT = ((0, 1, 2), (1, 0, 2), (2, 2, 2))
-TABLES = [ONE, ADD2, ADD3, ADD4, LEFT, RIGHT, BAND, COUNT3, COUNT4, TAIL, CUT]
-
-
-def sets_of(table):
-    values = range(len(table))
-    for size in range(len(table) + 1):
-        yield from itertools.combinations(values, size)
+from tables import (
+    ADD2, ADD3, ADD4, BAND, COUNT3, COUNT4, CUT, LEFT, ONE, RIGHT, TABLES, TAIL, check_faults,
+    semigroups_up_to, sets_of, some_semigroups,
+)
 
 
 def plain_product(table, one, two):
@@ -76,41 +56,6 @@ def plain_family(semigroup):
         for i in range(k + 1):
             offer(("both", k, i), plain_product(table, sets[k], sets[i]))
             offer(("both", i, k), plain_product(table, sets[i], sets[k]))
-
-
-def is_associative(table):
-    return all(table[table[a][b]][c] == table[a][table[b][c]]
-               for a, b, c in itertools.product(range(len(table)), repeat=3))
-
-
-def semigroups_up_to(most):
-    """All semigroups of up to so many values."""
-    for n in range(1, most + 1):
-        for members in itertools.product(range(n), repeat=n * n):
-            table = tuple(members[n * k:n * k + n] for k in range(n))
-            if is_associative(table):
-                for many in (1, 2, 3):
-                    for letters in itertools.product(range(n), repeat=many):
-                        yield table, letters
-
-
-def some_tables_of_4(count):
-    """Tables of four values: the closed sets of four maps of four states, always the same ones."""
-    chosen = random.Random(16)
-    found = []
-    while len(found) < count:
-        maps = [tuple(chosen.randrange(4) for _ in range(4)) for _ in range(2)]
-        at = 0
-        while at < len(maps) <= 4:
-            for other in list(maps):
-                for new in (tuple(other[s] for s in maps[at]), tuple(maps[at][s] for s in other)):
-                    if new not in maps:
-                        maps.append(new)
-            at += 1
-        if len(maps) == 4:
-            found.append(tuple(tuple(maps.index(tuple(two[s] for s in one)) for two in maps)
-                               for one in maps))
-    return found
 
 
 class Product(unittest.TestCase):
@@ -282,12 +227,8 @@ class Family(unittest.TestCase):
             self.assertEqual(family_of(semigroup), plain_family(semigroup), semigroup)
 
     def test_semigroups_of_4_values(self):
-        chosen = random.Random(4)
-        for table in some_tables_of_4(60) + [ADD4, BAND, COUNT4]:
-            for _ in range(4):
-                letters = tuple(chosen.randrange(4) for _ in range(chosen.randint(1, 3)))
-                semigroup = (table, letters)
-                self.assertEqual(family_of(semigroup), plain_family(semigroup), semigroup)
+        for semigroup in some_semigroups(400, 4):
+            self.assertEqual(family_of(semigroup), plain_family(semigroup), semigroup)
 
     def test_no_set_twice_and_none_empty(self):
         for table in TABLES:
@@ -313,24 +254,7 @@ class Family(unittest.TestCase):
 
 class Invalid(unittest.TestCase):
     def test_the_word_of_the_fault(self):
-        told = [
-            (((), (0,)), "table"),
-            ((((0, 0),), (0,)), "table"),
-            ((((0, 2), (0, 0)), (0,)), "table"),
-            ((((0,) * 5,) * 5, (0,)), "table"),
-            ((((0, 2), (0, 0)), ()), "table"),
-            ((ADD2, ()), "letters"),
-            ((ADD2, (0, 1, 0, 1)), "letters"),
-            ((ADD2, (2,)), "letters"),
-            ((ADD2, (-1,)), "letters"),
-            ((((1, 0), (0, 0)), (2,)), "letters"),
-            ((((1, 0), (0, 0)), (0,)), "associative"),
-        ]
-        for semigroup, word in told:
-            with self.subTest(semigroup=semigroup):
-                with self.assertRaises(InvalidSemigroup) as caught:
-                    family_of(semigroup)
-                self.assertEqual(caught.exception.word, word)
+        check_faults(self, family_of)
 
 
 if __name__ == "__main__":

@@ -6,7 +6,9 @@ import pathlib
 import unittest
 
 import partfilter
-from partfilter import alike, comparing, family, filters, machines, readers, semigroups
+from partfilter import (
+    alike, classes, comparing, family, filters, lengths, machines, readers, semigroups, separating, unseen,
+)
 
 PACKAGE = pathlib.Path(partfilter.__file__).parent
 INTERFACE = {
@@ -47,6 +49,20 @@ INTERFACE = {
         "first_difference": ["one", "two", "letters"],
         "count_taken": ["lines", "letters", "size"],
         "least_reader": ["lines", "letters"],
+    },
+    classes: {
+        "classes_of": ["semigroup"],
+    },
+    separating: {
+        "meeting": ["semigroup", "sets"],
+        "separate": ["semigroup", "first", "second"],
+    },
+    unseen: {
+        "word_of": ["semigroup", "number", "value", "depth"],
+        "unseen": ["semigroup", "sets", "depth"],
+    },
+    lengths: {
+        "lengths_apart": ["semigroup", "first", "second"],
     },
 }
 

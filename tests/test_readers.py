@@ -9,6 +9,7 @@ from partfilter.filters import takes
 from partfilter.readers import reader_of, refuted_by
 from partfilter.semigroups import value_of
 from samples import repeated, some_filters, words_up_to
+from tables import ABSORB, ADD2, ADD3, COUNT4, LEFT, RIGHT
 
 NONE = ("none",)
 EMPTY = ("empty",)
@@ -17,15 +18,6 @@ B = ("letter", 1)
 C = ("letter", 2)
 # All words: what is not none.
 ALL = (NONE, ("not", 0))
-ADD2 = ((0, 1), (1, 0))
-ADD3 = ((0, 1, 2), (1, 2, 0), (2, 0, 1))
-LEFT = ((0, 0), (1, 1))
-RIGHT = ((0, 1), (0, 1))
-# The value 0 stays, and any product with 1 is 1.
-ABSORB = ((0, 1), (1, 1))
-# The value k is a word of k + 1 letters, and 3 is any longer one.
-COUNT4 = tuple(tuple(min(a + b + 1, 3) for b in range(4)) for a in range(4))
-
 
 def plain_reader(lines, number, letters):
     """The reader of a line, told anew from point [18]."""

@@ -8,20 +8,10 @@ from partfilter.errors import InvalidSemigroup, InvalidValue
 from partfilter.semigroups import (
     check_semigroup, check_sets, fault_of, first_words, has_common_word, value_of,
 )
+from tables import ADD2, ADD3, ADD4, BAND, LEFT, NOT_ASSOCIATIVE, ONE, RIGHT
 
-ONE = ((0,),)
-# Addition of remainders by 2, 3 and 4.
-ADD2 = ((0, 1), (1, 0))
-ADD3 = ((0, 1, 2), (1, 2, 0), (2, 0, 1))
-ADD4 = tuple(tuple((a + b) % 4 for b in range(4)) for a in range(4))
-# The product is the left one, or the right one.
-LEFT = ((0, 0), (1, 1))
-RIGHT = ((0, 1), (0, 1))
-# Two by two: the place in the row of the one, and in the column of the other.
-BAND = tuple(tuple((a // 2) * 2 + b % 2 for b in range(4)) for a in range(4))
 ZERO2 = ((0, 0), (0, 0))
 ZERO4 = ((0,) * 4,) * 4
-NOT_ASSOCIATIVE = ((1, 0), (0, 0))
 
 
 def plain_fault(semigroup):
