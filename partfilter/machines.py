@@ -22,6 +22,13 @@ def machine_fault(machine):
     return None
 
 
+def check_machine(machine):
+    """Raise InvalidMachine if the machine has a fault."""
+    fault = machine_fault(machine)
+    if fault is not None:
+        raise InvalidMachine(fault)
+
+
 def machine_takes(machine, word):
     """Whether a machine takes a word."""
     _, rows, state, lasts = machine
@@ -32,9 +39,7 @@ def machine_takes(machine, word):
 
 def semigroup_of(machine):
     """The semigroup of a machine, the values it takes, whether it takes the empty word, the maps."""
-    fault = machine_fault(machine)
-    if fault is not None:
-        raise InvalidMachine(fault)
+    check_machine(machine)
     letters, rows, first, lasts = machine
     letter_maps = [tuple([row[letter] for row in rows]) for letter in range(letters)]
     maps = maps_of_words(letter_maps)

@@ -1,7 +1,9 @@
-"""Words and filters that several tests go through."""
+"""Words and filters that several tests go through, and what a call tells."""
 
 import itertools
 import random
+
+from partfilter.errors import FilterError
 
 
 def words_up_to(letters, most):
@@ -32,3 +34,11 @@ def some_filters(count, most, seed):
                 many = {"none": 0, "empty": 0, "not": 1}.get(kind, 2)
                 lines.append((kind, *[chosen.randrange(number) for _ in range(many)]))
         yield tuple(lines)
+
+
+def told(call, *arguments):
+    """What a call returns, or the class of the error that it raises."""
+    try:
+        return call(*arguments)
+    except FilterError as error:
+        return type(error)

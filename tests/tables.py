@@ -25,6 +25,8 @@ TAIL = ((1, 2, 1), (2, 1, 2), (1, 2, 1))
 CUT = ((0, 1, 2), (1, 0, 2), (2, 2, 2))
 # The value 1 is that of all words in which it stands.
 ABSORB = ((0, 1), (1, 1))
+# Of the values of two letters or more only that of 3 twice is not 0.
+NILPOTENT = ((0, 0, 0, 0), (0, 0, 0, 0), (0, 0, 0, 0), (0, 0, 0, 1))
 TABLES = [ONE, ADD2, ADD3, ADD4, LEFT, RIGHT, BAND, COUNT3, COUNT4, TAIL, CUT, ABSORB]
 NOT_ASSOCIATIVE = ((1, 0), (0, 0))
 

@@ -5,20 +5,18 @@ from unittest import mock
 
 from partfilter import classes, expressions
 from partfilter.classes import Inquiry, classes_of
-from partfilter.errors import FilterError, TooManyLines, TooManyQuestions
+from partfilter.errors import TooManyLines, TooManyQuestions
 from partfilter.family import family_of, product_of, settled, settling, turned
 from partfilter.filters import filter_fault, put_down, takes, trimmed
 from partfilter.semigroups import value_of
-from samples import repeated, words_up_to
+from samples import repeated, told, words_up_to
 from tables import (
-    ABSORB, ADD2, ADD3, COUNT3, COUNT4, LEFT, ONE, RIGHT, check_faults, is_associative, semigroups_up_to,
-    some_semigroups,
+    ABSORB, ADD2, ADD3, COUNT3, COUNT4, LEFT, NILPOTENT, ONE, RIGHT, check_faults, is_associative,
+    semigroups_up_to, some_semigroups,
 )
 
 NO_WORD = (("none",),)
 EMPTY = (("empty",),)
-# Both orders of the products of 2 and 3 come to 1, and all other products to 0.
-NILPOTENT = ((0, 0, 0, 0), (0, 0, 0, 0), (0, 0, 0, 0), (0, 0, 0, 1))
 
 
 def made(kind, *parts):
@@ -180,14 +178,6 @@ def question_of(semigroup):
 
 def plain_classes(semigroup):
     return Plain(semigroup[0]).ask(*question_of(semigroup))
-
-
-def told(call, *arguments):
-    """What a call returns, or the class of the error that it raises."""
-    try:
-        return call(*arguments)
-    except FilterError as error:
-        return type(error)
 
 
 def asked(inquiry, letters, family):

@@ -7,7 +7,8 @@ import unittest
 
 import partfilter
 from partfilter import (
-    alike, classes, comparing, family, filters, lengths, machines, readers, semigroups, separating, unseen,
+    alike, classes, comparing, ends, family, filters, ladder, lengths, machines, notation, readers,
+    semigroups, separating, unseen, workshop,
 )
 
 PACKAGE = pathlib.Path(partfilter.__file__).parent
@@ -64,6 +65,37 @@ INTERFACE = {
     lengths: {
         "lengths_apart": ["semigroup", "first", "second"],
     },
+    ends: {
+        "ends_apart": ["semigroup", "first", "second", "most"],
+        "round_words": ["rounds", "times"],
+    },
+    ladder: {
+        "ladder": ["semigroup", "first", "second"],
+    },
+    workshop: {
+        "Workshop": ["semigroup"],
+    },
+    notation: {
+        "format_word": ["word"],
+        "parse_word": ["letters", "text"],
+        "format_semigroup": ["semigroup"],
+        "parse_semigroup": ["text"],
+        "format_filter": ["lines"],
+        "parse_filter": ["text"],
+        "format_machine": ["machine"],
+        "parse_machine": ["text"],
+    },
+}
+# The methods of the class Workshop, and their arguments.
+METHODS = {
+    "set_letter": ["letter", "value"],
+    "undo": [],
+    "redo": [],
+    "semigroup": [],
+    "changes": [],
+    "undone": [],
+    "separate": ["first", "second"],
+    "kept": [],
 }
 
 
@@ -80,6 +112,11 @@ class Interface(unittest.TestCase):
                     function = getattr(module, name)
                     self.assertEqual(list(inspect.signature(function).parameters), arguments)
                     self.assertEqual(function.__module__, module.__name__)
+
+    def test_methods_stand_in_the_class_itself(self):
+        for name, arguments in METHODS.items():
+            method = vars(workshop.Workshop)[name]
+            self.assertEqual(list(inspect.signature(method).parameters), ["self"] + arguments)
 
 
 class Shape(unittest.TestCase):

@@ -5,23 +5,21 @@ from unittest import mock
 
 from partfilter import separating
 from partfilter.classes import classes_of
-from partfilter.errors import FilterError, InvalidSemigroup, InvalidValue, TooManyLines, TooManyStates
+from partfilter.errors import InvalidSemigroup, InvalidValue, TooManyLines, TooManyStates
 from partfilter.family import family_of
 from partfilter.filters import filter_fault, takes, trimmed
 from partfilter.readers import refuted_by
 from partfilter.semigroups import value_of
 from partfilter.separating import meeting, separate
-from samples import words_up_to
+from samples import told, words_up_to
 from tables import (
-    ADD2, ADD3, BAND, LEFT, NO_SETS, ONE, RIGHT, check_faults, check_no_sets, semigroups_up_to,
-    sets_of, some_semigroups,
+    ADD2, ADD3, BAND, LEFT, NILPOTENT, NO_SETS, ONE, RIGHT, check_faults, check_no_sets,
+    semigroups_up_to, sets_of, some_semigroups,
 )
 
 NO_WORD = (("none",),)
 # The product of two values is 0 or 3, by whether one and only one of them is 1 or 3.
 HALVES = ((3, 0, 3, 0), (0, 3, 0, 3), (3, 0, 3, 0), (0, 3, 0, 3))
-# 3 with itself makes 1, and all other products are 0.
-NILPOTENT = ((0, 0, 0, 0), (0, 0, 0, 0), (0, 0, 0, 0), (0, 0, 0, 1))
 
 
 def plain_meeting(semigroup, sets):
@@ -51,19 +49,11 @@ def plain_separate(semigroup, first, second):
     met = plain_meeting(semigroup, [first, second])
     if met:
         return ("met", *met)
-    try:
-        found = classes_of(semigroup)
-    except FilterError as error:
-        return type(error)
+    found = told(classes_of, semigroup)
+    if found == TooManyLines:
+        return found
     lines = any_lines([lines for lines, bound in found if not set(bound) & set(second)])
     return TooManyLines if len(lines) > 300 else ("filter", lines)
-
-
-def told(semigroup, first, second):
-    try:
-        return separate(semigroup, first, second)
-    except FilterError as error:
-        return type(error)
 
 
 class Meeting(unittest.TestCase):
@@ -178,14 +168,14 @@ class Separate(unittest.TestCase):
         for semigroup in list(semigroups_up_to(2, 2)) + list(some_semigroups(20, 18)) + [(HALVES, (2, 1))]:
             for first in sets_of(semigroup[0]):
                 for second in sets_of(semigroup[0]):
-                    found = told(semigroup, first, second)
+                    found = told(separate, semigroup, first, second)
                     self.assertEqual(found, plain_separate(semigroup, first, second))
                     kinds[found if found == TooManyLines else found[0]] += 1
         self.assertGreater(min(kinds.values()), 10)
 
     def test_filters_are_valid_and_trimmed(self):
         for semigroup in some_semigroups(60, 27):
-            found = told(semigroup, (0,), (1, 2))
+            found = told(separate, semigroup, (0,), (1, 2))
             if found != TooManyLines and found[0] == "filter":
                 self.assertIsNone(filter_fault(found[1]))
                 self.assertEqual(trimmed(found[1]), found[1])
@@ -201,7 +191,7 @@ class Apart(unittest.TestCase):
             pairs = [(tuple(x for x in range(many) if x not in one), one) for one in sets_of(semigroup[0])]
             pairs += [((0,), (many - 1,)), ((many - 1,), (0,))]
             for first, second in pairs:
-                found = told(semigroup, first, second)
+                found = told(separate, semigroup, first, second)
                 if found != TooManyLines and found[0] == "filter":
                     try:
                         self.assertIsNone(refuted_by(semigroup, first, second, found[1]))
